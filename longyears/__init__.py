@@ -1,0 +1,1 @@
+"""Longyears: lands whose long years are spread evenly."""
