@@ -49,6 +49,14 @@ def need_day(thing):
         raise NoDay("a day is a whole number from -10 ** 30 to 10 ** 30")
 
 
+def need_days(first, last):
+    """Refuse what are no days, or a last one that is less than the first."""
+    need_day(first)
+    need_day(last)
+    if last < first:
+        raise NoDay("the last day is no less than the first")
+
+
 def need_place(land, thing):
     """Refuse what is no place that each year of the land has."""
     days = land[0]
@@ -68,6 +76,14 @@ def first_day(land, year):
     return (step_of(land) * year + shift) // bottom
 
 
+def date_of(land, day):
+    """The date of a day, also of days beyond those that may be handed in."""
+    days, top, bottom, shift = land
+    # A year begins no later than the day just where step * year + shift < (day + 1) * bottom.
+    year = ((day + 1) * bottom - shift - 1) // step_of(land)
+    return (year, day - first_day(land, year))
+
+
 def added_days(land, year):
     """How much later a year begins than if all years had days days and year 0 began on day 0."""
     days, top, bottom, shift = land
@@ -85,10 +101,7 @@ def date(land, day):
     """The date of a day, a pair (year, place)."""
     need_land(land)
     need_day(day)
-    days, top, bottom, shift = land
-    # A year begins no later than the day just where step * year + shift < (day + 1) * bottom.
-    year = ((day + 1) * bottom - shift - 1) // step_of(land)
-    return (year, day - first_day(land, year))
+    return date_of(land, day)
 
 
 def is_long(land, year):

@@ -82,7 +82,11 @@ def lengths(land, place, week, name):
     years = falling_years(land, place, week, name, 0, cycle)
     # Behind the last of the cycle comes the first of the next one; with no years both lists are empty.
     nexts = years[1:] + [year + cycle for year in years[:1]]
-    return tuple(sorted({later - year for year, later in zip(years, nexts)}))
+    found = []
+    for year, later in zip(years, nexts):
+        if later - year not in found:
+            found.append(later - year)
+    return tuple(sorted(found))
 
 
 def is_barring(land, place, week, name, measure):

@@ -22,6 +22,30 @@ def falls(land, place, week, name, year):
     return (begin(land, year) + place - name) % week == 0
 
 
+def date(land, day):
+    """Found from a near year on by going from year to year."""
+    year = day // land[0] // 2
+    while abs(day - begin(land, year)) > 5 * (land[0] + 1):
+        year += (day - begin(land, year)) // (land[0] + 1)
+    while begin(land, year) > day:
+        year -= 1
+    while begin(land, year + 1) <= day:
+        year += 1
+    return (year, day - begin(land, year))
+
+
+def days_with(land, place, first, last):
+    """All days from first on to ahead of last with the place, year by year."""
+    year = date(land, first)[0]
+    found = []
+    while begin(land, year) < last:
+        day = begin(land, year) + place
+        if first <= day < last and day < begin(land, year + 1):
+            found.append(day)
+        year += 1
+    return found
+
+
 def bars(land, place, week, name, measure):
     days, top, bottom, shift = land
     step = days * bottom + top

@@ -11,7 +11,8 @@ BUILTINS = """len range enumerate zip min max sum abs sorted reversed int str bo
     isinstance ord repr any all divmod ValueError TypeError KeyError""".split()
 WORDS = """type typing typing_extensions enum Enum IntEnum StrEnum Flag IntFlag Generic Protocol ABC ABCMeta
     namedtuple NamedTuple TypedDict TYPE_CHECKING abstractmethod""".split()
-NO_NODES = (ast.Global, ast.AsyncFunctionDef, ast.Await, ast.Div, ast.Import)
+DOUBLE_UNDERSCORE = ["__init__", "__len__", "__eq__"]
+NO_NODES = (ast.Global, ast.Try, ast.Yield, ast.GeneratorExp, ast.AsyncFunctionDef, ast.Await, ast.Div, ast.Import)
 
 
 def own_files():
@@ -28,6 +29,14 @@ def bound_names(tree):
             yield node.id
         elif isinstance(node, ast.alias):
             yield node.asname or node.name
+
+
+def defined_names(tree):
+    for part in tree.body:
+        if isinstance(part, (ast.FunctionDef, ast.ClassDef)):
+            yield part.name
+        elif isinstance(part, ast.Assign):
+            yield part.targets[0].id
 
 
 class Language(unittest.TestCase):
@@ -62,12 +71,29 @@ class Language(unittest.TestCase):
                     package, module = node.module.split(".")
                     self.assertEqual(package, "longyears")
                     other = ast.parse((FOLDER / f"{module}.py").read_text(encoding="ascii"))
-                    defined = {part.name for part in other.body if isinstance(part, (ast.FunctionDef, ast.ClassDef))}
-                    self.assertLessEqual({alias.name for alias in node.names}, defined)
+                    self.assertLessEqual({alias.name for alias in node.names}, set(defined_names(other)))
+
+    def test_no_local_name_is_that_of_an_import(self):
+        for path, text, tree in self.each():
+            imported = {alias.name for part in tree.body if isinstance(part, ast.ImportFrom) for alias in part.names}
+            for part in ast.walk(tree):
+                if isinstance(part, ast.FunctionDef):
+                    self.assertEqual(imported & set(bound_names(part)), set())
+
+    def test_no_two_files_import_from_each_other(self):
+        imports = {}
+        for path, text, tree in self.each():
+            imports[path.stem] = {part.module.split(".")[1] for part in tree.body if isinstance(part, ast.ImportFrom)}
+        while imports:
+            free = [name for name in imports if not imports[name] & set(imports)]
+            self.assertNotEqual(free, [])
+            imports = {name: imports[name] for name in imports if name not in free}
 
     def test_names(self):
         for path, text, tree in self.each():
             for name in bound_names(tree):
+                if name in DOUBLE_UNDERSCORE:
+                    continue
                 self.assertRegex(name, r"^[A-Za-z][A-Za-z0-9_]*$")
                 self.assertFalse(hasattr(builtins, name), name)
 
@@ -114,13 +140,28 @@ class Interface(unittest.TestCase):
                   "lengths": ["land", "place", "week", "name"],
                   "barring": ["land", "place", "week", "name"],
                   "bars": ["land", "place", "week", "name", "thing"]},
+        "meetings": {"next_day": ["one", "place_one", "other", "place_other", "day"],
+                     "days": ["one", "place_one", "other", "place_other", "first", "last"],
+                     "parting": ["one", "place_one", "other", "place_other"],
+                     "parts": ["one", "place_one", "other", "place_other", "thing"]},
+        "alike": {"alike": ["one", "other"], "first_parting": ["one", "other"], "lands_of": ["seen", "most"]},
     }
+    realm = {"__init__": ["self", "land"], "change": ["self", "day", "land"], "back": ["self"],
+             "date": ["self", "day"], "days_of": ["self", "year", "place"], "lands": ["self"],
+             "__len__": ["self"], "__eq__": ["self", "other"]}
+
+    def arguments_in(self, body):
+        return {part.name: [arg.arg for arg in part.args.args] for part in body if isinstance(part, ast.FunctionDef)}
+
+    def test_a_realm_is_defined_in_its_file_with_all_its_methods(self):
+        tree = ast.parse((FOLDER / "realms.py").read_text(encoding="ascii"))
+        classes = {part.name: self.arguments_in(part.body) for part in tree.body if isinstance(part, ast.ClassDef)}
+        self.assertEqual({name: classes["Realm"].get(name) for name in self.realm}, self.realm)
 
     def test_each_function_is_defined_in_its_file_with_its_arguments(self):
         for module, functions in self.listed.items():
             tree = ast.parse((FOLDER / f"{module}.py").read_text(encoding="ascii"))
-            defined = {part.name: [arg.arg for arg in part.args.args] for part in tree.body
-                       if isinstance(part, ast.FunctionDef)}
+            defined = self.arguments_in(tree.body)
             for name, arguments in functions.items():
                 self.assertEqual(defined.get(name), arguments, name)
 
