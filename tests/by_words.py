@@ -46,6 +46,20 @@ def days_with(land, place, first, last):
     return found
 
 
+def places(land, first, last):
+    """The places of all days from first on to ahead of last, a list, the days gone through one by one."""
+    year, place = date(land, first)
+    ends = begin(land, year + 1)
+    found = []
+    for day in range(first, last):
+        if day == ends:
+            year, place = year + 1, 0
+            ends = begin(land, year + 1)
+        found.append(place)
+        place += 1
+    return found
+
+
 def bars(land, place, week, name, measure):
     days, top, bottom, shift = land
     step = days * bottom + top
